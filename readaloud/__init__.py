@@ -1,0 +1,1 @@
+"""Rows read aloud: readaloud.desk.answers(calls) takes the calls."""

@@ -1,0 +1,110 @@
+"""The rules for the package's own files that can be seen file by file."""
+
+import ast
+import builtins
+import pathlib
+import re
+import unittest
+
+PACKAGE = pathlib.Path(__file__).resolve().parent.parent / "readaloud"
+FILES = sorted(path for path in PACKAGE.rglob("*") if path.is_file() and path.suffix != ".pyc")
+
+NODES = set("""
+Module FunctionDef ClassDef Return Assign AugAssign For While If Raise Try ExceptHandler ImportFrom alias
+Expr Pass Break Continue BoolOp And Or BinOp Add Sub Mult FloorDiv Mod Pow LShift RShift BitOr BitXor BitAnd
+UnaryOp Invert Not USub UAdd Lambda IfExp Dict ListComp comprehension Compare Eq NotEq Lt LtE Gt GtE Is IsNot In NotIn
+Call keyword JoinedStr FormattedValue Constant Attribute Subscript Slice Name List Tuple Load Store arguments arg
+""".split())
+
+NAMES = set("""
+len range enumerate zip min max sum abs sorted reversed int str bool list tuple dict set frozenset isinstance ord
+repr any all divmod Exception ValueError TypeError KeyError IndexError LookupError ZeroDivisionError ArithmeticError
+OverflowError RuntimeError NotImplementedError AttributeError StopIteration
+""".split())
+
+WORDS = set("""
+type typing typing_extensions enum Enum IntEnum StrEnum Flag IntFlag Generic Protocol ABC ABCMeta namedtuple
+NamedTuple TypedDict TYPE_CHECKING abstractmethod
+""".split())
+
+METHODS = set("""
+append clear copy count endswith extend find get index insert isalnum isalpha isdigit islower isspace isupper items
+join keys ljust lower lstrip partition pop remove replace reverse rfind rjust rpartition rsplit rstrip setdefault
+split splitlines startswith strip update upper values zfill bit_length
+""".split())
+
+
+def nodes_of(path, *kinds):
+    return [node for node in ast.walk(ast.parse(path.read_text())) if isinstance(node, kinds)]
+
+
+def own_methods():
+    return {node.name for path in FILES for kind in nodes_of(path, ast.ClassDef)
+            for node in kind.body if isinstance(node, ast.FunctionDef)}
+
+
+class LanguageTest(unittest.TestCase):
+    def test_files(self):
+        self.assertIn(PACKAGE / "__init__.py", FILES)
+        self.assertIn(PACKAGE / "desk.py", FILES)
+        for path in FILES:
+            self.assertRegex(path.name, r"^(__init__|[a-z][a-z0-9_]*)\.py$")
+
+    def test_signs_and_sizes(self):
+        for path in FILES:
+            text = path.read_bytes().decode("ascii")
+            self.assertRegex(text, r"\A[ -~\n]*\Z")
+            self.assertLessEqual(len(text.splitlines()), 400, path)
+            self.assertLessEqual(max(len(line) for line in text.splitlines()), 120, path)
+            for node in nodes_of(path, ast.FunctionDef):
+                self.assertLessEqual(node.end_lineno - node.lineno + 1, 40, node.name)
+
+    def test_words(self):
+        for path in FILES:
+            text = path.read_text()
+            self.assertEqual(set(re.findall(r"\w+", text)) & WORDS, set(), path)
+            self.assertNotRegex(text, "dataclass|overload|contextmanager")
+
+    def test_forms(self):
+        for path in FILES:
+            used = {type(node).__name__ for node in nodes_of(path, ast.AST)}
+            self.assertEqual(used - NODES, set(), path)
+            for node in nodes_of(path, ast.Assign):
+                self.assertEqual(len(node.targets), 1, (path, node.lineno))
+            for node in nodes_of(path, ast.For, ast.While):
+                self.assertEqual(node.orelse, [], (path, node.lineno))
+            for node in nodes_of(path, ast.FunctionDef, ast.ClassDef):
+                self.assertEqual(node.decorator_list, [], (path, node.lineno))
+            for node in nodes_of(path, ast.Constant):
+                self.assertIn(type(node.value), (int, str, bool, type(None)), (path, node.lineno))
+
+    def test_imports(self):
+        for path in FILES:
+            for node in nodes_of(path, ast.ImportFrom):
+                self.assertRegex(node.module, r"^readaloud\.[a-z0-9_]+$")
+                self.assertEqual(node.level, 0)
+                self.assertNotIn("*", [name.name for name in node.names])
+
+    def test_names(self):
+        for path in FILES:
+            for node in nodes_of(path, ast.Name):
+                self.assertFalse(node.id.startswith("_"), (path, node.lineno))
+                if hasattr(builtins, node.id):
+                    self.assertIn(node.id, NAMES, (path, node.lineno))
+                    self.assertIsInstance(node.ctx, ast.Load, (path, node.lineno))
+            for node in nodes_of(path, ast.arg):
+                self.assertFalse(node.arg.startswith("_") or hasattr(builtins, node.arg), (path, node.lineno))
+
+    def test_methods(self):
+        own = own_methods()
+        for path in FILES:
+            for node in nodes_of(path, ast.Call):
+                if isinstance(node.func, ast.Attribute):
+                    self.assertIn(node.func.attr, METHODS | own, (path, node.lineno))
+            for node in nodes_of(path, ast.Attribute):
+                if isinstance(node.ctx, ast.Store):
+                    self.assertNotIn(node.attr, own, (path, node.lineno))
+
+
+if __name__ == "__main__":
+    unittest.main()
