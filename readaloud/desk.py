@@ -11,13 +11,13 @@ BACK = 4
 MOST_DAYS = 120
 
 
+# Raised so that a number that no call has is never answered as if it were another call.
 class UnknownCall(ValueError):
-    """A call's number that no call has."""
+    pass
 
 
+# What is kept between calls lives here, so that each list of calls has a row of its own.
 class Desk:
-    """One row; each call answers a list, whose first number is the answer."""
-
     def __init__(self):
         self.digits = []
 
@@ -44,17 +44,16 @@ class Desk:
     def back(self):
         return self.become(day_before(self.digits))
 
+    # None stands for a row that can't be had: the one that is here stays then.
     def become(self, digits):
-        """Takes another row and answers its length; None is refused."""
         if digits is None:
             return [-2]
         self.digits = digits
         return [len(digits)]
 
 
+# Keeps the place in the list of calls, since the list itself must stay as it was handed in.
 class Reader:
-    """Reads the numbers of a list from its beginning, and changes none of them."""
-
     def __init__(self, numbers):
         self.numbers = numbers
         self.place = 0
@@ -68,7 +67,6 @@ class Reader:
         return number
 
     def read_list(self):
-        """A list with how many numbers it has before it."""
         many = self.read_number()
         start = self.place
         self.place += many
@@ -76,14 +74,12 @@ class Reader:
 
 
 def counted_most(most):
-    """What most counts as."""
     if most < 1 or most > LONGEST:
         return 0
     return most
 
 
 def answer_one(desk, reader):
-    """Reads one call and has the desk answer it."""
     number = reader.read_number()
     if number == BEGIN:
         return desk.begin()
@@ -99,7 +95,6 @@ def answer_one(desk, reader):
 
 
 def answers(calls):
-    """For each call, in order: how many numbers are answered, then these."""
     desk = Desk()
     reader = Reader(calls)
     told = []

@@ -6,7 +6,6 @@ HIGHEST = 9
 
 
 def runs(row):
-    """Each run of one digit, as long as it goes: (how often, which)."""
     found = []
     start = 0
     for place in range(1, len(row) + 1):
@@ -17,7 +16,6 @@ def runs(row):
 
 
 def read_aloud(row):
-    """The row a day later."""
     spoken = []
     for often, digit in runs(row):
         spoken.append(often)
@@ -25,8 +23,8 @@ def read_aloud(row):
     return spoken
 
 
+# None stands for a row that would be too long on one of the days.
 def later(row, days):
-    """The row so many days later; None if it is too long on one of them."""
     now = list(row)
     for day in range(days):
         now = read_aloud(now)
@@ -36,8 +34,8 @@ def later(row, days):
     return now
 
 
+# None stands for a row that isn't there or would be too long: both are refused alike.
 def day_before(row):
-    """The row that is read aloud as this one; None if there is none or it is too long."""
     if len(row) % 2 == 1:
         return None
     before = []
@@ -53,7 +51,6 @@ def day_before(row):
 
 
 def may_be_set(digits):
-    """Whether these digits may be a row to begin with."""
     if len(digits) < 1 or len(digits) > MOST_SET:
         return False
     if min(digits) < 1 or max(digits) > HIGHEST:

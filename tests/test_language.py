@@ -75,6 +75,9 @@ class LanguageTest(unittest.TestCase):
                 self.assertEqual(node.orelse, [], (path, node.lineno))
             for node in nodes_of(path, ast.FunctionDef, ast.ClassDef):
                 self.assertEqual(node.decorator_list, [], (path, node.lineno))
+            for node in nodes_of(path, ast.Expr):
+                # The file's docstring is the one value that stands by itself.
+                self.assertTrue(isinstance(node.value, ast.Call) or node.lineno == 1, (path, node.lineno))
             for node in nodes_of(path, ast.Constant):
                 self.assertIn(type(node.value), (int, str, bool, type(None)), (path, node.lineno))
 
