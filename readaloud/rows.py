@@ -15,12 +15,16 @@ def runs(row):
     return found
 
 
-def read_aloud(row):
+def read_runs(found):
     spoken = []
-    for often, digit in runs(row):
+    for often, digit in found:
         spoken.append(often)
         spoken.append(digit)
     return spoken
+
+
+def read_aloud(row):
+    return read_runs(runs(row))
 
 
 # None stands for a row that would be too long on one of the days.

@@ -3,43 +3,7 @@
 import unittest
 
 from readaloud.desk import Desk, UnknownCall, answers
-
-LOWEST = -2147483648
-HIGHEST = 2147483647
-
-BEGIN = [0]
-BACK = [4]
-
-
-def set_to(digits):
-    return [1, len(digits)] + list(digits)
-
-
-def row(most=65536):
-    return [2, most]
-
-
-def days(d):
-    return [3, d]
-
-
-def ask(*calls):
-    """The answers to begin and these calls, each a list of its own, without begin's."""
-    told = answers(BEGIN + [number for call in calls for number in call])
-    split = []
-    place = 0
-    while place < len(told):
-        many = told[place]
-        split.append(told[place + 1:place + 1 + many])
-        place += 1 + many
-    assert place == len(told)
-    assert len(split) == len(calls) + 1
-    assert split[0] == [0]
-    return split[1:]
-
-
-def digits_of(text):
-    return [int(sign) for sign in text]
+from tests.asking import BACK, BEGIN, HIGHEST, NO_DAYS, NO_MOST, ask, days, digits_of, row, set_to
 
 
 class LongRowTest(unittest.TestCase):
@@ -134,14 +98,14 @@ class RowTest(LongRowTest):
         self.assertEqual(ask(set_to([3]), row(1)), [[0], [1, 3]])
 
     def test_most_that_counts_as_0(self):
-        for most in (LOWEST, -1, 0, 65537, HIGHEST):
+        for most in NO_MOST:
             self.assertEqual(ask(set_to([3]), row(most)), [[0], [-2]])
 
     def test_greatest_most(self):
         self.assertEqual(ask(set_to([3]), row(65536)), [[0], [1, 3]])
 
     def test_empty_row(self):
-        for most in (LOWEST, -1, 0, 1, 65536, 65537, HIGHEST):
+        for most in NO_MOST + (1, 65536):
             self.assertEqual(ask(row(most)), [[0]])
 
     def test_leaves_the_row(self):
@@ -183,7 +147,7 @@ class DaysTest(LongRowTest):
         self.assertEqual(ask(days(0), days(1), days(15), row()), [[0], [0], [0], [0]])
 
     def test_d_outside(self):
-        for d in (LOWEST, -2, -1, 121, 122, HIGHEST):
+        for d in NO_DAYS:
             self.assertEqual(ask(set_to([1, 2]), days(d), row()), [[0], [-1], [2, 1, 2]])
             self.assertEqual(ask(days(d), row()), [[-1], [0]])
 

@@ -108,6 +108,58 @@ class LanguageTest(unittest.TestCase):
                 if isinstance(node.ctx, ast.Store):
                     self.assertNotIn(node.attr, own, (path, node.lineno))
 
+    def test_comprehensions_and_lambdas(self):
+        for path in FILES:
+            for node in nodes_of(path, ast.ListComp):
+                self.assertEqual(len(node.generators), 1, (path, node.lineno))
+                self.assertLessEqual(len(node.generators[0].ifs), 1, (path, node.lineno))
+            lines = [node.lineno for node in nodes_of(path, ast.Lambda)]
+            self.assertEqual(len(lines), len(set(lines)), path)
+
+    def test_own_names_of_python_are_called(self):
+        for path in FILES:
+            called = [node.func for node in nodes_of(path, ast.Call)]
+            bases = [base for node in nodes_of(path, ast.ClassDef) for base in node.bases]
+            spots = {(node.lineno, node.col_offset) for node in called + bases}
+            for node in nodes_of(path, ast.Name):
+                if hasattr(builtins, node.id):
+                    self.assertIn((node.lineno, node.col_offset), spots, path)
+
+    def test_walked_at_once(self):
+        for path in FILES:
+            kept = [node.value for node in nodes_of(path, ast.Assign, ast.Return)]
+            for node in kept:
+                if isinstance(node, ast.Call):
+                    name = getattr(node.func, "id", getattr(node.func, "attr", None))
+                    self.assertNotIn(name, ("zip", "enumerate", "reversed", "range", "items", "keys", "values", "set"))
+
+    def test_each_name_once(self):
+        for path in FILES:
+            bound = []
+            for node in ast.parse(path.read_text()).body:
+                if isinstance(node, (ast.FunctionDef, ast.ClassDef)):
+                    bound.append(node.name)
+                elif isinstance(node, ast.Assign):
+                    bound.append(node.targets[0].id)
+                elif isinstance(node, ast.ImportFrom):
+                    bound.extend(name.name for name in node.names)
+            self.assertEqual(len(bound), len(set(bound)), path)
+            imported = {name.name for node in nodes_of(path, ast.ImportFrom) for name in node.names}
+            classes = {node.name for node in nodes_of(path, ast.ClassDef)}
+            inner = {node.arg for node in nodes_of(path, ast.arg)}
+            inner |= {node.id for node in nodes_of(path, ast.Name)
+                      if isinstance(node.ctx, ast.Store) and node.col_offset > 0}
+            self.assertEqual(inner & (imported | classes), set(), path)
+
+    def test_is_and_texts(self):
+        for path in FILES:
+            for node in nodes_of(path, ast.Compare):
+                for sign, beside in zip(node.ops, node.comparators):
+                    if isinstance(sign, (ast.Is, ast.IsNot)):
+                        self.assertIn(getattr(beside, "value", beside), (None, True, False), (path, node.lineno))
+            for node in nodes_of(path, ast.Constant):
+                self.assertNotIn("%", str(node.value), (path, node.lineno))
+
 
 if __name__ == "__main__":
     unittest.main()

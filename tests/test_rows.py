@@ -1,19 +1,9 @@
 """All short rows, held against what is written here in another way."""
 
-import itertools
 import unittest
 
 from readaloud import rows
-
-
-def spoken(row):
-    return [number for digit, run in itertools.groupby(row) for number in (len(list(run)), digit)]
-
-
-def short_rows(digits, longest):
-    for length in range(longest + 1):
-        for row in itertools.product(digits, repeat=length):
-            yield list(row)
+from tests.asking import short_rows, spoken
 
 
 class AllShortRowsTest(unittest.TestCase):
