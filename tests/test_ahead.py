@@ -73,7 +73,7 @@ class LongTest(unittest.TestCase):
         self.assertEqual(desk.how_long(120)[1] * 10 ** 6 // desk.how_long(119)[1], 1303577)
 
     def test_modulo(self):
-        # No row that is written down comes to 2^64 digits within 120 days: one that is four times as long does.
+        # A row of the greatest length doesn't come to 2^64 digits here; one that is four times as long does.
         once = desk_with([3, 2] * 32768).how_long(120)[1]
         self.assertLess(once, 2 ** 64)
         self.assertGreater(4 * once, 2 ** 64)
